@@ -1,0 +1,1 @@
+"""Cardlanes: a board of lanes through which cards are pulled."""
