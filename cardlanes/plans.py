@@ -36,9 +36,20 @@ def lane_number(plan, name):
 
 def way_of(plan, kind):
     """The way of the kind of that name."""
-    for name, way, bounds in plan[1]:
-        if name == kind:
-            return way
+    return kind_of(plan, kind)[1]
+
+
+def kind_bound(plan, kind, lane):
+    """The bound of the kind of that name at a lane of its way."""
+    name, way, bounds = kind_of(plan, kind)
+    return bounds[way.index(lane)]
+
+
+def kind_of(plan, kind):
+    """The tuple of the kind of that name."""
+    for told in plan[1]:
+        if told[0] == kind:
+            return told
     raise NoKind(kind)
 
 

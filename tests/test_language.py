@@ -1,6 +1,7 @@
 """The rules of the language for the package that a look at each file can tell."""
 
 import ast
+import builtins
 import pathlib
 import re
 import unittest
@@ -17,6 +18,11 @@ BUILTINS = set(
     "ord repr any all divmod super property staticmethod classmethod Exception ValueError TypeError KeyError IndexError "
     "LookupError ZeroDivisionError ArithmeticError OverflowError RuntimeError NotImplementedError AttributeError "
     "StopIteration".split()
+)
+BUILTIN_METHODS = set(
+    "append clear copy count endswith extend find get index insert isalnum isalpha isdigit islower isspace isupper items "
+    "join keys ljust lower lstrip partition pop remove replace reverse rfind rjust rpartition rsplit rstrip setdefault "
+    "split splitlines startswith strip update upper values zfill bit_length add discard".split()
 )
 DUNDERS = {"__init__", "__eq__", "__repr__", "__str__", "__len__", "__enter__", "__exit__"}
 BARRED_NODES = (
@@ -43,6 +49,39 @@ def bound_names(tree):
         elif isinstance(node, ast.ExceptHandler) and node.name:
             names.append(node.name)
     return names
+
+
+def top_names(tree):
+    """The names that a file binds at module level, each as often as it does."""
+    names = []
+    for node in tree.body:
+        if isinstance(node, ast.ImportFrom):
+            names += [alias.asname or alias.name for alias in node.names]
+        elif isinstance(node, (ast.FunctionDef, ast.ClassDef)):
+            names.append(node.name)
+        elif isinstance(node, ast.Assign):
+            names += [target.id for target in node.targets]
+    return names
+
+
+def inner_names(tree):
+    """The names of parameters and local variables."""
+    names = []
+    for function in ast.walk(tree):
+        if isinstance(function, (ast.FunctionDef, ast.Lambda)):
+            for node in ast.walk(function):
+                if isinstance(node, ast.arg):
+                    names.append(node.arg)
+                elif isinstance(node, ast.Name) and not isinstance(node.ctx, ast.Load):
+                    names.append(node.id)
+                elif isinstance(node, ast.ExceptHandler) and node.name:
+                    names.append(node.name)
+    return names
+
+
+def all_nodes(kind):
+    """All nodes of that kind, in all files."""
+    return [node for tree in TREES.values() for node in ast.walk(tree) if isinstance(node, kind)]
 
 
 class Language(unittest.TestCase):
@@ -110,6 +149,49 @@ class Language(unittest.TestCase):
                     self.assertNotIn("%", str(node.value), file)
                 if isinstance(node, ast.Compare) and isinstance(node.ops[0], (ast.Is, ast.IsNot)):
                     self.assertIn(ast.unparse(node.comparators[0]), ("None", "True", "False"), file)
+
+    def test_each_name_at_module_level_is_bound_once(self):
+        for file, tree in TREES.items():
+            names = top_names(tree)
+            self.assertEqual(sorted(set(names)), sorted(names), file)
+
+    def test_inner_names_are_not_those_of_classes_imports_or_builtins(self):
+        for file, tree in TREES.items():
+            barred = {node.name for node in tree.body if isinstance(node, ast.ClassDef)} | set(dir(builtins))
+            for node in tree.body:
+                if isinstance(node, ast.ImportFrom):
+                    barred |= {alias.asname or alias.name for alias in node.names}
+            self.assertEqual(barred & set(inner_names(tree)), set(), file)
+
+    def test_no_name_is_a_method_and_an_attribute(self):
+        methods = {node.name for made in all_nodes(ast.ClassDef) for node in made.body if isinstance(node, ast.FunctionDef)}
+        stored = {node.attr for node in all_nodes(ast.Attribute) if isinstance(node.ctx, ast.Store)}
+        self.assertEqual(methods & stored, set())
+        read = {node.attr for node in all_nodes(ast.Attribute) if isinstance(node.ctx, ast.Load)}
+        self.assertEqual(read - stored - methods - BUILTIN_METHODS, set())
+
+    def test_a_class_is_only_called_or_a_base_or_asked_for(self):
+        classes = {node.name for node in all_nodes(ast.ClassDef)}
+        for file, tree in TREES.items():
+            free = []
+            for node in ast.walk(tree):
+                if isinstance(node, ast.Call):
+                    free.append(node.func)
+                    if ast.unparse(node.func) == "isinstance":
+                        free += ast.walk(node.args[1])
+                elif isinstance(node, ast.ClassDef):
+                    free += node.bases
+                elif isinstance(node, ast.ExceptHandler):
+                    free += ast.walk(node.type)
+            for node in ast.walk(tree):
+                if isinstance(node, ast.Name) and node.id in classes:
+                    self.assertIn(node, free, f"{file}: {node.lineno}")
+
+    def test_an_error_is_made_where_it_is_raised(self):
+        for node in all_nodes(ast.Raise):
+            if node.exc is not None:
+                self.assertIsInstance(node.exc, ast.Call)
+                self.assertIsInstance(node.exc.func, ast.Name)
 
 
 if __name__ == "__main__":
