@@ -46,7 +46,7 @@ def bound_names(tree):
             names.append(node.id)
         elif isinstance(node, ast.Attribute) and isinstance(node.ctx, ast.Store):
             names.append(node.attr)
-        elif isinstance(node, ast.ExceptHandler) and node.name:
+        elif isinstance(node, (ast.ExceptHandler, ast.MatchAs, ast.MatchStar)) and node.name:
             names.append(node.name)
     return names
 
@@ -74,7 +74,7 @@ def inner_names(tree):
                     names.append(node.arg)
                 elif isinstance(node, ast.Name) and not isinstance(node.ctx, ast.Load):
                     names.append(node.id)
-                elif isinstance(node, ast.ExceptHandler) and node.name:
+                elif isinstance(node, (ast.ExceptHandler, ast.MatchAs, ast.MatchStar)) and node.name:
                     names.append(node.name)
     return names
 
@@ -186,6 +186,28 @@ class Language(unittest.TestCase):
             for node in ast.walk(tree):
                 if isinstance(node, ast.Name) and node.id in classes:
                     self.assertIn(node, free, f"{file}: {node.lineno}")
+
+    def test_patterns_are_plain_and_their_names_are_read_in_their_own_case_only(self):
+        plain = (ast.MatchValue, ast.MatchSingleton, ast.MatchSequence, ast.MatchStar, ast.MatchAs)
+        for node in all_nodes(ast.match_case):
+            for part in ast.walk(node.pattern):
+                if isinstance(part, ast.pattern):
+                    self.assertIsInstance(part, plain)
+            if node.guard is not None:
+                self.assertEqual([part for part in ast.walk(node.guard) if isinstance(part, ast.Call)], [])
+        for function in all_nodes(ast.FunctionDef):
+            cases = [node for node in ast.walk(function) if isinstance(node, ast.match_case)]
+            inside = [part for case in cases for part in ast.walk(case)]
+            names = {part.name for part in inside if isinstance(part, (ast.MatchAs, ast.MatchStar))}
+            told = [node.arg for node in ast.walk(function) if isinstance(node, ast.arg)]
+            told += [node.id for node in ast.walk(function) if isinstance(node, ast.Name) and node not in inside]
+            stored = [node for node in inside if isinstance(node, ast.Name) and not isinstance(node.ctx, ast.Load)]
+            told += [node.id for node in stored]
+            self.assertEqual(names & set(told), set(), function.name)
+
+    def test_only_own_errors_are_caught(self):
+        for node in all_nodes(ast.ExceptHandler):
+            self.assertRegex(ast.unparse(node.type), r"\A(LaneError|No[A-Z][a-z]+)\Z")
 
     def test_an_error_is_made_where_it_is_raised(self):
         for node in all_nodes(ast.Raise):
