@@ -1,6 +1,25 @@
-"""What deeds do and how they are refused, told once more by a table of cards instead of stands."""
+"""What deeds do and how they are refused, told once more by a table of cards instead of stands; and their texts."""
+
+import re
 
 from cardlanes.deeds import Add, Back, Block, Bound, Clear, Let, Pull, Wait
+
+NAME = "(?!(?:out|yard)(?![a-z]))[a-z]{1,8}"
+DEED = re.compile(
+    f"add {NAME} {NAME}|(pull|back|block|clear) {NAME}|wait {NAME} ({NAME}|out) {NAME}|let {NAME} {NAME}"
+    f"|bound {NAME} [1-9][0-9]?"
+)
+
+
+def deed_of_text(text):
+    """The deed whose text it is, or None."""
+    if not DEED.fullmatch(text):
+        return None
+    word, *told = text.split(" ")
+    if word == "bound":
+        return Bound(told[0], int(told[1]))
+    made = {"add": Add, "pull": Pull, "back": Back, "block": Block, "clear": Clear, "wait": Wait, "let": Let}[word]
+    return made(*told)
 
 
 class Board:

@@ -11,7 +11,17 @@ WIDE = (
     (("all", (0, 1, 2, 3), (3, 2, 2, 4)), ("ends", (0, 3), (2, 3)), ("mid", (1, 2), (1, 3)), ("la", (2,), (1,))),
 )
 
-STAND_PLANS = (SMALL, ORDINARY, GREATEST, WIDE)
+# The plans above have as many kinds as lanes; here there are fewer of them, and there more.
+LONG = (
+    (("la", 2), ("lb", 1), ("lc", 3), ("ld", 2), ("le", 2)),
+    (("all", (0, 1, 2, 3, 4), (2, 1, 2, 2, 1)), ("odd", (1, 3), (1, 2))),
+)
+BROAD = (
+    (("la", 3), ("lb", 2)),
+    (("ka", (0,), (2,)), ("kb", (1,), (1,)), ("kc", (0, 1), (3, 2)), ("kd", (0, 1), (1, 1)), ("ke", (1,), (2,))),
+)
+
+STAND_PLANS = (SMALL, ORDINARY, GREATEST, WIDE, LONG, BROAD)
 
 # At each place of the first kind's way there is a card; the bounds are others than the plan's.
 BUSY = (

@@ -1,22 +1,17 @@
 """[13] deeds read from texts; and [2] of what is handed in there."""
 
 import copy
-import re
 import unittest
 
 from cardlanes.deeds import Add, Back, Block, Bound, Clear, Let, Pull, Wait
 from cardlanes.deedtexts import read_deed
 from cardlanes.errors import LaneError, NoText
 
+from deed_model import DEED
 from plan_samples import ODD_THINGS, ORDINARY
 from refusals import Refusals, shown_error
 from stand_samples import BUSY, ORDINARY_STAND, STAND_PLANS, WIDE
 
-NAME = "(?!(?:out|yard)(?![a-z]))[a-z]{1,8}"
-DEED = re.compile(
-    f"add {NAME} {NAME}|(pull|back|block|clear) {NAME}|wait {NAME} ({NAME}|out) {NAME}|let {NAME} {NAME}"
-    f"|bound {NAME} [1-9][0-9]?"
-)
 SIGNS = "a z019:-+A\n\"~o"
 
 # Each kind of deed, with names of one sign, of eight, of words of deeds and of words near `out` and `yard`.
